@@ -106,15 +106,7 @@ func MultiplyCyclos(x Cyclo, y Cyclo) (Cyclo, int64) {
 	if code := pairCode(x, y); code != ErrNone {
 		return Cyclo{}, code
 	}
-	// Sums of products of whole Parts may be beyond int64, so y is taken in two halves.
-	high, low := halvesOf(y.Parts)
-	highs := productParts(x.Order, x.Parts, high)
-	lows := productParts(x.Order, x.Parts, low)
-	var product partArray
-	for i := range product {
-		product[i] = joinHalves(highs[i], lows[i])
-	}
-	return cycloWithin(x.Order, product)
+	return productWithin(x.Order, x.Parts, y.Parts)
 }
 
 // PowerCyclo returns x multiplied k times, k in 0..64 (1 for 0), and ErrNone. Errors: ErrLimit if
@@ -336,6 +328,20 @@ func pairCode(x Cyclo, y Cyclo) int64 {
 		return ErrRange
 	}
 	return ErrNone
+}
+
+// productWithin returns the product of two numbers of the order n, or ErrLimit if a Part of it is
+// too great. Those of x are at most MaxPart, those of y may be as great as those of an image.
+func productWithin(n int64, x []int64, y []int64) (Cyclo, int64) {
+	// Sums of products of whole Parts may be beyond int64, so y is taken in two halves.
+	high, low := halvesOf(y)
+	highs := productParts(n, x, high)
+	lows := productParts(n, x, low)
+	var product partArray
+	for i := range product {
+		product[i] = joinHalves(highs[i], lows[i])
+	}
+	return cycloWithin(n, product)
 }
 
 // halvesOf cuts each Part into a high half, times halfBase, and a low half.

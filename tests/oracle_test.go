@@ -75,27 +75,71 @@ func (p bigPowers) add(k int, a int64, b int64) {
 	at.Add(at, new(big.Int).Mul(big.NewInt(a), big.NewInt(b)))
 }
 
-// told returns the number that the sum is, and ErrLimit if one of its Parts is too great. It takes
-// z^k times the polynomial away, from the greatest power on.
-func (p bigPowers) told() (impl.Cyclo, int64) {
-	n := len(p)
-	phi := phis[n]
+// parts returns the Parts of the number that the sum is. It takes z^k times the polynomial away,
+// from the greatest power on.
+func (p bigPowers) parts() []*big.Int {
+	phi := phis[len(p)]
 	degree := len(phi) - 1
-	for k := n - 1; k >= degree; k-- {
-		head := new(big.Int).Set(p[k])
+	rest := make([]*big.Int, len(p))
+	for k := range p {
+		rest[k] = new(big.Int).Set(p[k])
+	}
+	for k := len(p) - 1; k >= degree; k-- {
+		head := new(big.Int).Set(rest[k])
 		for i, c := range phi {
-			at := p[k-degree+i]
+			at := rest[k-degree+i]
 			at.Sub(at, new(big.Int).Mul(head, big.NewInt(c)))
 		}
 	}
-	x := impl.Cyclo{Order: int64(n)}
-	for _, b := range p[:degree] {
+	return rest[:degree]
+}
+
+// told returns the number that the sum is, and ErrLimit if one of its Parts is too great.
+func (p bigPowers) told() (impl.Cyclo, int64) {
+	x := impl.Cyclo{Order: int64(len(p))}
+	for _, b := range p.parts() {
 		if b.CmpAbs(big.NewInt(impl.MaxPart)) > 0 {
 			return impl.Cyclo{}, impl.ErrLimit
 		}
 		x.Parts = append(x.Parts, b.Int64())
 	}
 	return x, impl.ErrNone
+}
+
+// fits reports whether no Part of the number that the sum is is too great.
+func (p bigPowers) fits() bool {
+	_, code := p.told()
+	return code == impl.ErrNone
+}
+
+// times returns the product of two sums.
+func (p bigPowers) times(q bigPowers) bigPowers {
+	product := newPowers(int64(len(p)))
+	for i, a := range p {
+		for j, b := range q {
+			at := product[(i+j)%len(p)]
+			at.Add(at, new(big.Int).Mul(a, b))
+		}
+	}
+	return product
+}
+
+// less returns the difference of two sums.
+func (p bigPowers) less(q bigPowers) bigPowers {
+	difference := newPowers(int64(len(p)))
+	for i := range p {
+		difference[i].Sub(p[i], q[i])
+	}
+	return difference
+}
+
+// movedPowers returns x with z^a in the place of z, whatever the size of its Parts.
+func movedPowers(x impl.Cyclo, n int64, a int64) bigPowers {
+	p := newPowers(n)
+	for i, part := range x.Parts {
+		p.add(i*int(a), part, 1)
+	}
+	return p
 }
 
 func wantProduct(x impl.Cyclo, y impl.Cyclo) (impl.Cyclo, int64) {
@@ -119,11 +163,7 @@ func wantSum(x impl.Cyclo, y impl.Cyclo, k int64) (impl.Cyclo, int64) {
 
 // wantMoved returns x with z^a in the place of z, as a number of the order n.
 func wantMoved(x impl.Cyclo, n int64, a int64) (impl.Cyclo, int64) {
-	p := newPowers(n)
-	for i, part := range x.Parts {
-		p.add(i*int(a), part, 1)
-	}
-	return p.told()
+	return movedPowers(x, n, a).told()
 }
 
 func wantOfList(n int64, list []int64) (impl.Cyclo, int64) {
