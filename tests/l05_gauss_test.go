@@ -645,14 +645,7 @@ func TestMemoryOfGauss(t *testing.T) {
 		got, code := call()
 		again, againCode := call()
 		wantGauss(t, what, got, code, again, againCode)
-		for i, row := range got.Rows {
-			fillRow(row[:cap(row)], int64(100+i))
-		}
-		for i, row := range got.Rows {
-			if !slices.Equal(row, slices.Repeat([]int64{int64(100 + i)}, 2)) {
-				t.Errorf("%s: the Row %d shares memory with another one: %v", what, i, row)
-			}
-		}
+		wantRowsApart(t, what, got.Rows)
 		if !isSame() || !isSameConstant() || !slices.Equal(all, before) {
 			t.Fatalf("%s: an argument was changed", what)
 		}
@@ -676,6 +669,23 @@ func TestMemoryOfGauss(t *testing.T) {
 	impl.IsGauss(x)
 	if !isSame() {
 		t.Error("IsGauss: an argument was changed")
+	}
+}
+
+// wantRowsApart fills rows and their spare capacity, from the first one on and from the last one on,
+// and checks that none is reached from another one.
+func wantRowsApart(t *testing.T, what string, rows [][]int64) {
+	t.Helper()
+	for range 2 {
+		for i, row := range rows {
+			fillRow(row[:cap(row)], int64(100+i))
+		}
+		for i, row := range rows {
+			if !slices.Equal(row, slices.Repeat([]int64{int64(100 + i)}, len(row))) {
+				t.Errorf("%s: the row %d shares memory with another one: %v", what, i, row)
+			}
+		}
+		slices.Reverse(rows)
 	}
 }
 
