@@ -606,6 +606,25 @@ func TestWrongSumsOfPeriods(t *testing.T) {
 	})
 }
 
+// wantNewLists checks that lists are new memory: what is written there changes no argument, nor what
+// the same call returns the next time.
+func wantNewLists(t *testing.T, calls map[string]func() ([]int64, int64), areKept func() bool) {
+	t.Helper()
+	for what, call := range calls {
+		got, code := call()
+		want := slices.Clone(got)
+		if code != impl.ErrNone {
+			t.Errorf("%s: %d", what, code)
+		}
+		fillRow(got[:cap(got)], 99)
+		if !areKept() {
+			t.Fatalf("%s: an argument was changed", what)
+		}
+		again, code := call()
+		wantNumbers(t, what+" again", again, code, want, impl.ErrNone)
+	}
+}
+
 // Results are new memory, no row of a table grows into another one, and lists and their spare
 // capacity stay as they are.
 func TestMemoryOfPeriods(t *testing.T) {
@@ -625,19 +644,9 @@ func TestMemoryOfPeriods(t *testing.T) {
 		"PeriodPolynomial":   func() ([]int64, int64) { return impl.PeriodPolynomial(7, 3) },
 		"DifferenceNumbers":  func() ([]int64, int64) { return impl.DifferenceNumbers(7, 3) },
 	}
-	for what, call := range calls {
-		got, code := call()
-		want := slices.Clone(got)
-		if code != impl.ErrNone {
-			t.Errorf("%s: %d", what, code)
-		}
-		fillRow(got[:cap(got)], 99)
-		if !slices.Equal(all, before) || !slices.Equal(one, []int64{-1, -1, -1}) {
-			t.Fatalf("%s: an argument was changed: %v, %v", what, all, one)
-		}
-		again, code := call()
-		wantNumbers(t, what+" again", again, code, want, impl.ErrNone)
-	}
+	wantNewLists(t, calls, func() bool {
+		return slices.Equal(all, before) && slices.Equal(one, []int64{-1, -1, -1})
+	})
 	for range 2 {
 		trace, code := impl.TraceOfPeriods(7, 3, a)
 		wantWhole(t, "TraceOfPeriods", trace, code, -4, impl.ErrNone)

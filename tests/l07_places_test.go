@@ -690,19 +690,9 @@ func TestMemoryAtPlaces(t *testing.T) {
 			return got.Parts, code
 		}
 	}
-	for what, call := range calls {
-		got, code := call()
-		want := slices.Clone(got)
-		if code != impl.ErrNone {
-			t.Errorf("%s: %d", what, code)
-		}
-		fillRow(got[:cap(got)], 99)
-		if !slices.Equal(all, before) || !slices.Equal(residues, residuesBefore) {
-			t.Fatalf("%s: an argument was changed: %v, %v", what, all, residues)
-		}
-		again, code := call()
-		wantNumbers(t, what+" again", again, code, want, impl.ErrNone)
-	}
+	wantNewLists(t, calls, func() bool {
+		return slices.Equal(all, before) && slices.Equal(residues, residuesBefore)
+	})
 	for range 2 {
 		got, code := impl.ResidueAt(x, 13, 5)
 		wantWhole(t, "ResidueAt", got, code, 4, impl.ErrNone)
